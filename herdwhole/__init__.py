@@ -1,0 +1,1 @@
+"""A herd kept various, whole: the herd's book."""
