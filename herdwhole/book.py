@@ -6,9 +6,11 @@ HB_START = 0
 HB_NEW = 1
 HB_BORN = 2
 HB_GONE = 3
+HB_KIN = 4
+HB_HERD = 5
 
 # By a call's number: how many whole numbers stand behind it.
-GIVEN_COUNTS = (0, 1, 3, 1)
+GIVEN_COUNTS = (0, 1, 3, 1, 2, 0, 1)
 
 
 def answers(calls):
@@ -33,4 +35,10 @@ def answer_call(herd, call, given):
         return [herd.take_in(given[0])]
     if call == HB_BORN:
         return [herd.breed(given[0], given[1], given[2])]
-    return [herd.let_go(given[0])]
+    if call == HB_GONE:
+        return [herd.let_go(given[0])]
+    if call == HB_KIN:
+        return herd.tell_kin(given[0], given[1])
+    if call == HB_HERD:
+        return herd.tell_herd()
+    return herd.tell_plan(given[0])

@@ -6,10 +6,15 @@ from unittest import mock
 
 import herdwhole.book
 from herdwhole.book import answers
-from helper import MOST, START, born, gone, joined, new
+from helper import HALF, HERD, MOST, START, born, full_book, gone, joined, kin, new, plan, split
 
-MIXED = joined([START, new(0), new(1), born(0, 1, 1), gone(0), gone(0), born(0, 7, 0), new(2), born(1, 0, 0)])
-MIXED_TOLD = [1, 0, 1, 0, 1, 1, 1, 2, 1, 0, 1, -11, 1, -2, 1, -22, 1, -13]
+# The last plan, by hand: the male 3, twice, 4 halves; the females 1 and 2, dam and daughter, 2 halves and 2 quarters.
+MIXED = joined([START, HERD, plan(1), new(0), new(1), born(0, 1, 1), kin(0, 2), kin(3, 0), gone(0), gone(0), HERD,
+                born(0, 7, 0), new(2), born(1, 0, 0), plan(0), new(0), plan(2)])
+PLAN_TOLD = [35, 0, 3, 255, 255, 255, 1, 2, 255, 255, 2, 0, 0, 0, 1, 1, 0, 0,
+             1, 1, 0, 0, 0, 0, 0, 0, 0, 0, 0, 0, 0, 0, 0, 0, 7 * HALF, 0]
+MIXED_TOLD = [1, 0, 2, 0, 0, 1, -33, 1, 0, 1, 1, 1, 2, 2, 0, 2 ** 46, 1, -2, 1, 0, 1, -11, 2, 2, 3 * HALF,
+              1, -2, 1, -22, 1, -13, 1, -22, 1, 3, *PLAN_TOLD]
 
 
 class UnchangedList(list):
@@ -38,6 +43,26 @@ class InterfaceTest(unittest.TestCase):
         # Wherever a call took one number more or less, what is behind it would be read as other calls.
         self.assertEqual(answers([0, 1, 1, 1, 0, 2, 1, 0, 1, 3, 2, 3, 3, 0]),
                          [1, 0, 1, 0, 1, 1, 1, 2, 1, 0, 1, -2, 1, 0])
+
+    def test_each_look_takes_its_own_numbers(self):
+        self.assertEqual(answers([0, 5, 1, 0, 4, 0, 0, 5, 6, 0, 5, 4, 0, 1, 6, 1, 0, 5]),
+                         [1, 0, 2, 0, 0, 1, 0, 2, 0, HALF, 2, 1, HALF, 1, -22, 2, 1, HALF, 1, -2, 1, -33, 1, 0,
+                          2, 0, 0])
+
+    def test_how_many_numbers_each_call_answers(self):
+        calls = [START, new(0), new(1), born(0, 1, 0), gone(0), kin(0, 1), HERD, plan(8)]
+        self.assertEqual([len(part) for part in split(answers(joined(calls)))], [1, 1, 1, 1, 1, 2, 2, 35])
+
+    def test_how_many_numbers_each_refusal_has(self):
+        calls = [START, plan(1), new(2), born(0, 0, 2), gone(0), kin(0, 0), plan(9)]
+        self.assertEqual(answers(joined(calls)), [1, 0, 1, -33, 1, -22, 1, -22, 1, -2, 1, -2, 1, -22])
+
+    def test_the_numbers_of_a_plan(self):
+        for young in range(1, 9):
+            answer = split(answers(joined([START, *full_book(), plan(young)])))[-1]
+            self.assertEqual(len(answer), 35)
+            self.assertTrue(all(0 <= number <= 255 for number in answer[1:33]))
+            self.assertTrue(all(0 <= number < 2 ** 64 for number in answer[33:]))
 
     def test_1000_calls_of_the_longest(self):
         calls = joined([START, *[born(0, 1, 0)] * 999])
@@ -85,6 +110,13 @@ class InterfaceTest(unittest.TestCase):
     def test_an_earlier_list_is_not_seen_by_a_later_one(self):
         answers(joined([START, *[new(0)] * 24, *[gone(number) for number in range(24)]]))
         self.assertEqual(answers(joined([START, gone(0), new(1), gone(0)])), [1, 0, 1, -2, 1, 0, 1, 0])
+        self.assertEqual(answers(joined([START, HERD, kin(0, 0), plan(1)])), [1, 0, 2, 0, 0, 1, -2, 1, -33])
+
+    def test_an_earlier_list_is_not_seen_in_a_plan(self):
+        plain = joined([START, new(0), new(1), new(1), HERD, kin(1, 2), plan(5)])
+        first = answers(plain)
+        answers(joined([START, new(0), new(1), born(0, 1, 1), HERD, kin(1, 2), plan(5)]))
+        self.assertEqual(answers(plain), first)
 
     def test_prints_reads_and_imports_nothing(self):
         told = io.StringIO()

@@ -71,6 +71,26 @@ def module_path(name):
     return PACKAGE.parent / (name.replace(".", "/") + ".py")
 
 
+def called_name(node):
+    """The name of what is called, a function's or a method's; None if nothing is."""
+    if not isinstance(node, ast.Call):
+        return None
+    return node.func.attr if isinstance(node.func, ast.Attribute) else getattr(node.func, "id", None)
+
+
+def walked_on_the_spot(tree):
+    """What stands behind the in of a for, or where it is gone through at once by one of Python's own."""
+    found = []
+    for node in ast.walk(tree):
+        if isinstance(node, (ast.For, ast.comprehension)):
+            found.append(node.iter)
+        if called_name(node) in ("list", "tuple", "dict", "sorted", "sum", "any", "all", "enumerate", "zip"):
+            found.extend(node.args[:1])
+        if called_name(node) in ("min", "max") and len(node.args) == 1 and not node.keywords:
+            found.extend(node.args)
+    return found
+
+
 class FileTest(unittest.TestCase):
     def test_there_are_files(self):
         self.assertIn(PACKAGE / "__init__.py", package_files())
@@ -133,6 +153,37 @@ class FormTest(unittest.TestCase):
             self.assertEqual(len(node.targets), 1, place)
         for place, node in all_nodes(ast.Expr):
             self.assertIsInstance(node.value, (ast.Call, ast.Constant), place)
+
+    def test_list_comprehensions(self):
+        for place, node in all_nodes(ast.ListComp):
+            self.assertEqual(len(node.generators), 1, place)
+            self.assertLessEqual(len(node.generators[0].ifs), 1, place)
+
+    def test_walked_at_once(self):
+        for path, tree in trees().items():
+            walked = walked_on_the_spot(tree)
+            for node in ast.walk(tree):
+                if called_name(node) in ("zip", "enumerate", "reversed", "range", "items", "keys", "values"):
+                    self.assertIn(node, walked, f"{path.name}:{node.lineno}")
+
+    def test_sets_are_not_kept(self):
+        for place, node in all_nodes((ast.Set, ast.Call)):
+            self.assertFalse(isinstance(node, ast.Set) or called_name(node) in ("set", "frozenset"), place)
+
+    def test_keywords(self):
+        allowed = {"sorted": {"key", "reverse"}, "min": {"key", "default"}, "max": {"key", "default"},
+                   "sum": {"start"}, "enumerate": {"start"}, "zip": {"strict"}}
+        for place, node in all_nodes(ast.Call):
+            given = {keyword.arg for keyword in node.keywords}
+            if called_name(node) in ALLOWED_NAMES | ALLOWED_METHODS:
+                self.assertLessEqual(given, allowed.get(called_name(node), set()), place)
+
+    def test_names_of_python_are_called_not_kept(self):
+        for path, tree in trees().items():
+            called = [node.func for node in ast.walk(tree) if isinstance(node, ast.Call)]
+            for node in ast.walk(tree):
+                if isinstance(node, ast.Name) and node.id in ALLOWED_NAMES:
+                    self.assertIn(node, called, f"{path.name}:{node.lineno}")
 
     def test_is_stands_beside_none_true_and_false(self):
         for place, node in all_nodes(ast.Compare):
@@ -201,6 +252,16 @@ class NameTest(unittest.TestCase):
                    for part in node.body if isinstance(part, ast.FunctionDef)}
         stored = {node.attr for place, node in all_nodes(ast.Attribute) if isinstance(node.ctx, ast.Store)}
         self.assertEqual(methods & stored, set())
+
+
+    def test_own_methods_and_values_are_called_unlike_those_of_python(self):
+        of_python = {name for kind in (str, int, list, tuple, dict, set, bytes) for name in dir(kind)}
+        for place, node in all_nodes(ast.ClassDef):
+            for part in ast.walk(node):
+                if isinstance(part, ast.FunctionDef) and part.name not in DUNDERS:
+                    self.assertNotIn(part.name, of_python - ALLOWED_METHODS, place)
+                if isinstance(part, ast.Attribute) and isinstance(part.ctx, ast.Store):
+                    self.assertNotIn(part.attr, of_python, place)
 
 
 class ImportTest(unittest.TestCase):
